@@ -1,0 +1,1 @@
+"""Editions compared and read."""
