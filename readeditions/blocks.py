@@ -5,7 +5,7 @@ A part is a tuple: SIGNS and the signs as a text has them, KEY and a name, or LI
 """
 
 from readeditions.conditions import condition_behind_if
-from readeditions.texts import BACKSLASH, ESCAPED_SIGNS, Scanner, coded, is_sign, require
+from readeditions.texts import BACKSLASH, ESCAPED_SIGNS, LINE_END, Scanner, require
 
 USE = "use"
 KINDS = ("h1", "h2", "h3", "h4", "p", "item", "use")
@@ -15,34 +15,30 @@ KEY = "key"
 LINK = "link"
 
 
+# The line as it is written, and its parts; a use has an empty one, and used: a topic and an id.
 class Block:
-    def __init__(self, kind, used, label, condition, parts):
+    def __init__(self, kind, used, label, condition, line, parts):
         self.kind = kind
         self.used = used
         self.label = label
         self.condition = condition
+        self.line = line
         self.parts = parts
 
 
-def block_of(line):
-    scan = Scanner(line)
-    kind = kind_here(scan)
+def block_of(text):
+    scan = Scanner(text)
+    kind = scan.word_here()
+    require(kind in KINDS)
     used = piece_here(scan) if kind == USE else ()
     label = scan.name_behind(" id ")
     condition = condition_behind_if(scan)
-    parts = []
-    if kind != USE:
-        scan.must_take(": ")
-        parts = parts_here(scan)
-    scan.must_end()
-    return Block(kind, used, label, condition, parts)
-
-
-def kind_here(scan):
-    word = scan.word_here()
-    found = [kind for kind in KINDS if coded(kind) == word]
-    require(len(found) == 1)
-    return found[0]
+    if kind == USE:
+        scan.must_end()
+        return Block(kind, used, label, condition, "", [])
+    scan.must_take(": ")
+    line = scan.rest()
+    return Block(kind, used, label, condition, line, parts_here(scan))
 
 
 def piece_here(scan):
@@ -67,12 +63,12 @@ def part_here(scan):
         return (KEY, name)
     if scan.takes("{link "):
         return link_here(scan)
-    return (SIGNS, sign_here(scan))
+    return (SIGNS, written_sign_here(scan))
 
 
 def link_here(scan):
     if scan.takes("#"):
-        link = (LINK, (), scan.name_here())
+        link = (LINK, "", scan.name_here())
     else:
         topic = scan.name_here()
         link = (LINK, topic, scan.name_behind("#"))
@@ -80,11 +76,11 @@ def link_here(scan):
     return link
 
 
-def sign_here(scan):
-    behind_backslash = scan.takes("\\")
-    sign = scan.byte_here()
-    require(is_sign(sign) and behind_backslash == (sign in ESCAPED_SIGNS))
-    return (BACKSLASH, sign) if behind_backslash else (sign,)
+def written_sign_here(scan):
+    behind_backslash = scan.takes(BACKSLASH)
+    sign = scan.sign_here()
+    require(sign != LINE_END and behind_backslash == (sign in ESCAPED_SIGNS))
+    return BACKSLASH + sign if behind_backslash else sign
 
 
 # Every edition shows each line anew: a run of signs is then one step, not one for each sign.

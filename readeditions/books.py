@@ -2,7 +2,7 @@
 
 from readeditions.blocks import LINK, USE, block_of
 from readeditions.conditions import condition_behind_if, values_told
-from readeditions.texts import Scanner, coded, escaped, is_sign, lines_of, require
+from readeditions.texts import Scanner, escaped, lines_of, require
 
 MOST_PROPERTIES = 5
 FEWEST_CHOICES = 2
@@ -46,18 +46,22 @@ class Key:
         self.topic = topic
 
 
+# A book has just one text, so the lines that it was read from are its lines.
 class Book:
-    def __init__(self, properties, topics, rows, told_keys):
+    def __init__(self, lines, properties, topics, rows, told_keys):
+        self.lines = lines
         self.properties = properties
         self.topics = topics
         self.rows = rows
         self.told_keys = told_keys
 
 
-# A book has just one text, so a text that can be read is the book's text as it stands.
 def book_of(text):
-    lines = lines_of(text)
-    require(len(lines) > 0 and lines[0] == coded("props"))
+    return book_of_lines(lines_of(text))
+
+
+def book_of_lines(lines):
+    require(len(lines) > 0 and lines[0] == "props")
     map_place = place_of(lines, "map")
     keys_place = place_of(lines, "keys")
     topics_place = first_topic_place(lines, map_place)
@@ -65,7 +69,7 @@ def book_of(text):
     topics = topics_of(lines[topics_place:map_place])
     rows = [row_of(line) for line in lines[map_place + 1:keys_place]]
     told_keys = [key_of(line) for line in lines[keys_place + 1:]]
-    book = Book(properties, topics, rows, told_keys)
+    book = Book(lines, properties, topics, rows, told_keys)
     check_sizes(book)
     check_names(book)
     check_conditions(book)
@@ -73,10 +77,25 @@ def book_of(text):
     return book
 
 
+# In the place of a block a line of another kind could make another book, so the block is read by itself first.
+def changed_book(book, topic_number, block_number, block_text):
+    block_of(block_text)
+    lines = list(book.lines)
+    lines[block_place(book, topic_number, block_number)] = block_text
+    return book_of_lines(lines)
+
+
+def block_place(book, topic_number, block_number):
+    place = 1 + len(book.properties)
+    for topic in book.topics[:topic_number]:
+        place += 1 + len(topic.blocks)
+    return place + 1 + block_number
+
+
 # Only the line of this word itself can be like it, so the first such line is the one.
 def place_of(lines, word):
-    require(coded(word) in lines)
-    return lines.index(coded(word))
+    require(word in lines)
+    return lines.index(word)
 
 
 def first_topic_place(lines, map_place):
@@ -87,7 +106,7 @@ def first_topic_place(lines, map_place):
 
 
 def starts_topic(line):
-    return Scanner(line).takes("topic ")
+    return line.startswith("topic ")
 
 
 def property_of(line):
@@ -122,7 +141,7 @@ def topic_name_of(line):
 def row_of(line):
     scan = Scanner(line)
     level = scan.word_here()
-    require(level in [coded(right) for right in LEVELS])
+    require(level in LEVELS)
     scan.must_take(" ")
     topic = scan.name_here()
     scope = scan.name_behind(" in ")
@@ -137,17 +156,17 @@ def key_of(line):
     scope = scan.name_behind(" in ")
     condition = condition_behind_if(scan)
     if scan.takes(" = "):
-        return Key(name, scope, condition, escaped(meaning_here(scan)), ())
+        return Key(name, scope, condition, meaning_here(scan), "")
     scan.must_take(" -> ")
     topic = scan.name_here()
     scan.must_end()
-    return Key(name, scope, condition, (), topic)
+    return Key(name, scope, condition, "", topic)
 
 
 def meaning_here(scan):
     meaning = scan.rest()
-    require(len(meaning) <= LONGEST_MEANING and all([is_sign(byte) for byte in meaning]))
-    return meaning
+    require(len(meaning) <= LONGEST_MEANING)
+    return escaped(meaning)
 
 
 def editions_counted(properties):

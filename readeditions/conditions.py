@@ -3,7 +3,7 @@
 A condition is a tuple: its kind, and then a property's name and a value, or the conditions in it.
 """
 
-from readeditions.texts import coded, is_name, require
+from readeditions.texts import is_name, require
 
 ALWAYS = "always"
 HAS = "has"
@@ -27,9 +27,9 @@ def condition_here(scan, left):
     if scan.takes("("):
         return pair_here(scan, left - 1)
     word = scan.word_here()
-    if word == coded("always"):
+    if word == "always":
         return (ALWAYS,)
-    if word == coded("not"):
+    if word == "not":
         scan.must_take("(")
         inner = condition_here(scan, left - 1)
         scan.must_take(")")

@@ -2,7 +2,6 @@
 
 from readeditions.blocks import KEY, SIGNS, USE
 from readeditions.conditions import holds
-from readeditions.texts import coded
 
 MISSING = "missing"
 RING = "ring"
@@ -18,9 +17,10 @@ class Section:
 
 # What stands at a block's place in a section, and the topic in which that was written.
 class Standing:
-    def __init__(self, kind, label, parts, written_in):
+    def __init__(self, kind, label, line, parts, written_in):
         self.kind = kind
         self.label = label
+        self.line = line
         self.parts = parts
         self.written_in = written_in
 
@@ -34,8 +34,7 @@ class Reach:
         self.meanings = meanings
 
 
-def document_lines(book, value_of):
-    sections = sections_of(book, value_of)
+def document_lines(book, value_of, sections):
     told_keys = [key for key in book.told_keys if holds(key.condition, value_of)]
     to_topics = links_to_topics(sections)
     to_pieces = links_to_pieces(sections)
@@ -43,7 +42,7 @@ def document_lines(book, value_of):
     for number, section in enumerate(sections):
         to_own = links_to_own(section, number)
         reach = Reach(to_topics, to_pieces, to_own, meanings_in(section.scope, told_keys, to_topics))
-        lines.append(section.level + coded(" ") + section.topic)
+        lines.append(section.level + " " + section.topic)
         lines.extend([block_line(block, reach) for block in section.blocks])
     return lines
 
@@ -72,13 +71,13 @@ def standing_of(block, topic, there):
     asked = []
     while found.kind == USE:
         if found.used in asked:
-            return Standing(RING, block.label, [], written_in)
+            return Standing(RING, block.label, "", [], written_in)
         asked.append(found.used)
         written_in = found.used[0]
         found = piece_of(there[written_in], found.used[1])
         if found is None:
-            return Standing(MISSING, block.label, [], written_in)
-    return Standing(found.kind, block.label, found.parts, written_in)
+            return Standing(MISSING, block.label, "", [], written_in)
+    return Standing(found.kind, block.label, found.line, found.parts, written_in)
 
 
 def piece_of(blocks, label):
@@ -89,7 +88,7 @@ def piece_of(blocks, label):
 
 
 def link_shown(numbers):
-    return coded("{" + ".".join([str(number) for number in numbers]) + "}")
+    return "{" + ".".join([str(number) for number in numbers]) + "}"
 
 
 def links_to_topics(sections):
@@ -119,7 +118,7 @@ def links_to_own(section, number):
 # The section's scope goes first: what it tells of a name is not told anew by keys without one.
 def meanings_in(scope, told_keys, to_topics):
     meanings = {}
-    for asked_scope in (scope, ()):
+    for asked_scope in (scope, ""):
         for key in told_keys:
             if key.scope == asked_scope and key.name not in meanings:
                 meanings[key.name] = meaning_shown(key, to_topics)
@@ -131,26 +130,21 @@ def meaning_shown(key, to_topics):
 
 
 def shown_or_nowhere(links, aim):
-    return links[aim] if aim in links else coded("{?}")
+    return links[aim] if aim in links else "{?}"
 
 
 def block_line(block, reach):
-    line = list(coded(block.kind))
-    if block.label:
-        line.extend(coded(" id ") + block.label)
+    line = block.kind + " id " + block.label if block.label else block.kind
     if block.kind in (MISSING, RING):
-        return tuple(line)
-    line.extend(coded(": "))
-    for part in block.parts:
-        line.extend(part_shown(part, block.written_in, reach))
-    return tuple(line)
+        return line
+    return line + ": " + "".join([part_shown(part, block.written_in, reach) for part in block.parts])
 
 
 def part_shown(part, written_in, reach):
     if part[0] == SIGNS:
         return part[1]
     if part[0] == KEY:
-        return reach.meanings[part[1]] if part[1] in reach.meanings else coded("{key?}")
+        return reach.meanings[part[1]] if part[1] in reach.meanings else "{key?}"
     return link_part_shown(part[1], part[2], written_in, reach)
 
 

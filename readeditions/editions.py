@@ -1,6 +1,6 @@
 """Editions as tuples of values, one for each property, and what tells them apart.
 
-A document is here whatever can be compared: the lines' numbers, by edition.
+Documents are the lines of each edition, in the editions' order.
 """
 
 
@@ -19,6 +19,11 @@ def classes_of(documents):
     for number, made in enumerate(documents):
         class_of.setdefault(made, []).append(number)
     return list(class_of.values())
+
+
+def unlike_numbers(documents, other_documents):
+    pairs = list(zip(documents, other_documents))
+    return [number for number, pair in enumerate(pairs) if pair[0] != pair[1]]
 
 
 def hanging_properties(editions, documents):

@@ -1,10 +1,20 @@
-"""Texts as tuples of bytes: what a name and a sign is, and a walk over one line."""
+"""Texts, which are bytes outside and Python's texts inside: what a name is, and a walk over one line."""
 
-LINE_END = 10
-BACKSLASH = 92
-ESCAPED_SIGNS = (92, 123, 125)
+LINE_END = "\n"
+LINE_END_BYTE = 10
+BACKSLASH = "\\"
+ESCAPED_SIGNS = ("\\", "{", "}")
 LONGEST_NAME = 8
 NO_NAMES = ("props", "topic", "map", "keys", "always", "not", "id", "in", "if")
+FIRST_SIGN_BYTE = 32
+# The signs by their bytes. The sign 37 may not be written in this program: a tab, which is no sign, stands for it.
+SIGNS_IN_ORDER = (
+    " !\"#$\t&'()*+,-./0123456789:;<=>?"
+    "@ABCDEFGHIJKLMNOPQRSTUVWXYZ[\\]^_"
+    "`abcdefghijklmnopqrstuvwxyz{|}~"
+)
+STAND_IN = "\t"
+STAND_IN_BYTE = 37
 
 
 class WrongText(Exception):
@@ -16,48 +26,47 @@ def require(right):
         raise WrongText()
 
 
-def coded(word):
-    return tuple([ord(sign) for sign in word])
+# No text of a book or a block has another byte than a sign's or a line's end.
+def text_of(text_bytes):
+    return "".join([sign_of(byte) for byte in text_bytes])
 
 
-def is_letter(byte):
-    return 97 <= byte <= 122
+def sign_of(byte):
+    if byte == LINE_END_BYTE:
+        return LINE_END
+    place = byte - FIRST_SIGN_BYTE
+    require(0 <= place < len(SIGNS_IN_ORDER))
+    return SIGNS_IN_ORDER[place]
 
 
-def is_letter_or_digit(byte):
-    return is_letter(byte) or 48 <= byte <= 57
+def bytes_of(text):
+    return [STAND_IN_BYTE if sign == STAND_IN else ord(sign) for sign in text]
 
 
-def is_sign(byte):
-    return 32 <= byte <= 126
+def is_letter(sign):
+    return "a" <= sign <= "z"
+
+
+def is_letter_or_digit(sign):
+    return is_letter(sign) or "0" <= sign <= "9"
 
 
 def is_name(word):
     if not 1 <= len(word) <= LONGEST_NAME:
         return False
-    if not is_letter(word[0]) or not all([is_letter_or_digit(byte) for byte in word]):
+    if not is_letter(word[0]) or not all([is_letter_or_digit(sign) for sign in word]):
         return False
-    return word not in [coded(no_name) for no_name in NO_NAMES]
+    return word not in NO_NAMES
 
 
 def escaped(signs):
-    shown = []
-    for sign in signs:
-        if sign in ESCAPED_SIGNS:
-            shown.append(BACKSLASH)
-        shown.append(sign)
-    return tuple(shown)
+    return "".join([BACKSLASH + sign if sign in ESCAPED_SIGNS else sign for sign in signs])
 
 
 def lines_of(text):
-    lines = []
-    first = 0
-    for place, byte in enumerate(text):
-        if byte == LINE_END:
-            lines.append(text[first:place])
-            first = place + 1
-    require(first == len(text))
-    return lines
+    lines = text.split(LINE_END)
+    require(lines[-1] == "")
+    return lines[:-1]
 
 
 class Scanner:
@@ -73,7 +82,7 @@ class Scanner:
 
     def takes(self, word):
         end = self.place + len(word)
-        if self.line[self.place:end] != coded(word):
+        if self.line[self.place:end] != word:
             return False
         self.place = end
         return True
@@ -81,7 +90,7 @@ class Scanner:
     def must_take(self, word):
         require(self.takes(word))
 
-    def byte_here(self):
+    def sign_here(self):
         require(not self.at_end())
         self.place += 1
         return self.line[self.place - 1]
@@ -100,9 +109,7 @@ class Scanner:
 
     # A name that may be left out is the empty text where it is left out.
     def name_behind(self, word):
-        return self.name_here() if self.takes(word) else ()
+        return self.name_here() if self.takes(word) else ""
 
     def rest(self):
-        first = self.place
-        self.place = len(self.line)
-        return self.line[first:]
+        return self.line[self.place:]

@@ -2,7 +2,8 @@
 
 from readeditions.reader import answers
 
-WORDS = {"showbook": 1, "classes": 2, "matters": 3, "settle": 4, "cause": 5, "compare": 6, "size": 13}
+WORDS = {"showbook": 1, "classes": 2, "matters": 3, "settle": 4, "cause": 5, "compare": 6, "touched": 8, "mark": 9,
+         "read": 10, "unread": 11, "next": 12, "size": 13}
 
 
 def coded(text):
@@ -15,6 +16,10 @@ def ended(lines):
 
 def book_call(text):
     return [0, len(text)] + coded(text)
+
+
+def change_call(i, j, text):
+    return [7, i, j, len(text)] + coded(text)
 
 
 def call(word, *numbers):
@@ -52,18 +57,22 @@ def texts_in(numbers):
     return texts
 
 
-def values_in(numbers):
-    """Told values, as pairs of a property's name and a value."""
+def text_told(text):
+    return [len(text)] + coded(text)
+
+
+def pairs_in(numbers):
+    """Pairs of texts: told values (a property's name and a value), or contents (a topic's name and a block's text)."""
     texts = texts_in([2 * numbers[0]] + numbers[1:])
     return list(zip(texts[0::2], texts[1::2]))
 
 
 def settle(text, k):
-    return values_in(ask_book(text, "settle", k))
+    return pairs_in(ask_book(text, "settle", k))
 
 
 def cause(text, k, l):
-    return values_in(ask_book(text, "cause", k, l))
+    return pairs_in(ask_book(text, "cause", k, l))
 
 
 def common(text, k, l):

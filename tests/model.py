@@ -229,9 +229,37 @@ def values_told(pairs):
     return [len(pairs)] + [number for pair in pairs for text in pair for number in text_told(text)]
 
 
+def contents(book, edition):
+    """What an edition shows, as pairs of a topic's name and the text of a block."""
+    shown = []
+    for row in book["rows"]:
+        if is_there(row, edition):
+            for block in book["topics"][row["topic"]]:
+                topic, found = resolve(book, edition, row["topic"], block)
+                pair = (topic, "%s: %s" % (found["kind"], found.get("line")))
+                if is_there(block, edition) and "parts" in found and pair not in shown:
+                    shown.append(pair)
+    return shown
+
+
+def with_block(text, i, j, block):
+    """A book's text with another block, found by walking over its lines; None if there is no such block."""
+    lines = text[:-1].split("\n")
+    places = []
+    for place, line in enumerate(lines[:lines.index("map")]):
+        if line.startswith("topic "):
+            places.append([])
+        elif places:
+            places[-1].append(place)
+    if i not in range(len(places)) or j not in range(len(places[i])):
+        return None
+    lines[places[i][j]] = block
+    return "\n".join(lines) + "\n"
+
+
 class Model:
     def __init__(self):
-        self.take("props\nmap\nkeys\n")
+        self.book_taken("props\nmap\nkeys\n")
 
     def take(self, text):
         book = parse(text)
@@ -240,13 +268,27 @@ class Model:
         self.editions = book["editions"]
         self.documents = [document(book, edition) for edition in self.editions]
 
+    def book_taken(self, text):
+        self.take(text)
+        self.marked = self.book
+        self.seen = set()
+        return [len(self.book["topics"]), len(self.editions)]
+
+    def changed(self, i, j, block):
+        text = with_block(self.text, i, j, block)
+        if text is None:
+            return [-3]
+        parse_block(block, self.book["props"])
+        before = self.documents
+        self.take(text)
+        return [sum(one != other for one, other in zip(before, self.documents))]
+
     def answer(self, word, *given):
-        if word == "book":
+        if word in ("book", "change"):
             try:
-                self.take(given[0])
+                return self.book_taken(*given) if word == "book" else self.changed(*given)
             except NoBook:
                 return [-1]
-            return [len(self.book["topics"]), len(self.editions)]
         if any(not 0 <= k < len(self.editions) for k in given):
             return [-2]
         return getattr(self, word)(*given)
@@ -296,5 +338,30 @@ class Model:
         told = [len(self.documents[k]), len(self.documents[l]), len(common)]
         return told + [number for line in common for number in text_told(line)]
 
+    def touched(self):
+        found = [n for n, edition in enumerate(self.editions) if document(self.marked, edition) != self.documents[n]]
+        return [len(found)] + found
+
+    def mark(self):
+        many = self.touched()[0]
+        self.marked = self.book
+        return [many]
+
+    def unseen(self, k):
+        return [pair for pair in contents(self.book, self.editions[k]) if pair not in self.seen]
+
+    def read(self, k):
+        new = self.unseen(k)
+        self.seen |= set(new)
+        return [len(new), len(self.seen)]
+
+    def unread(self, k):
+        return values_told(self.unseen(k))
+
+    def next(self):
+        most, k = max((len(self.unseen(k)), -k) for k in range(len(self.editions)))
+        return [-k, most]
+
     def size(self):
-        return [len(self.book["topics"]), sum(map(len, self.book["topics"].values())), len(self.editions), 0]
+        blocks = sum(map(len, self.book["topics"].values()))
+        return [len(self.book["topics"]), blocks, len(self.editions), len(self.seen)]

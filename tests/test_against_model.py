@@ -3,7 +3,7 @@
 import unittest
 from random import Random
 
-from tests.helper import ask, book_call, call, ended
+from tests.helper import ask, book_call, call, change_call, ended
 from tests.model import Model
 
 NAMES = ["a", "b", "c", "p", "or", "and"]
@@ -92,13 +92,20 @@ class Maker:
         return "\n".join(lines[:at] + [self.pick(lines)] + lines[at:])
 
 
+def as_call(word, *given):
+    if word == "book":
+        return book_call(*given)
+    return change_call(*given) if word == "change" else call(word, *given)
+
+
 class AgainstModel(unittest.TestCase):
     def check(self, asked):
         model = Model()
-        calls = [book_call(one[1]) if one[0] == "book" else call(*one) for one in asked]
-        told = ask(*calls)
+        told = ask(*[as_call(*one) for one in asked])
+        self.assertEqual(len(told), len(asked))
         for one, answer in zip(asked, told):
             self.assertEqual(answer, model.answer(*one), (one, model.text))
+        return told
 
     def test_right_books(self):
         for seed in range(500):
@@ -123,3 +130,33 @@ class AgainstModel(unittest.TestCase):
             taken += sum(len(answer) == 2 for answer in ask(*[book_call(spoilt) for spoilt in texts]))
         self.assertGreater(taken, 200)
         self.assertLess(taken, 2200)
+
+    def test_sessions(self):
+        many = {}
+        for seed in range(300):
+            maker = Maker(seed)
+            text = maker.book()
+            asked = [("book", text)]
+            for _ in range(29):
+                asked.append(self.step(maker, text))
+            for one, answer in zip(asked, self.check(asked)):
+                many.setdefault((one[0], min(answer[0], 2)), []).append(answer)
+        for word, first in (("change", -3), ("change", -1), ("change", 0), ("change", 1), ("change", 2), ("touched", 0),
+                            ("touched", 2), ("mark", 0), ("mark", 2), ("read", -2), ("read", 0), ("read", 2),
+                            ("unread", -2), ("unread", 0), ("unread", 2), ("next", 0), ("next", 2), ("book", -1)):
+            self.assertGreater(len(many[word, first]), 25, (word, first))
+
+    def step(self, maker, text):
+        way = maker.upto(15)
+        if way <= 5:
+            block = maker.block()
+            if maker.often(2):
+                block = maker.spoilt(block) if block else ""
+            return ("change", maker.upto(4) - (way == 0), maker.upto(5) - (way == 0), block)
+        if way <= 10:
+            word = ("touched", "mark", "next", "size", "showbook")[way - 6]
+            return (word,) if word != "showbook" else maker.pick([("showbook",), ("classes",), ("matters",)])
+        if way == 15:
+            return maker.pick([("book", text), ("book", maker.spoilt(text)), ("cause", 0, 1), ("compare", 1, 0),
+                               ("settle", 1)])
+        return (maker.pick(["read", "unread"]), maker.upto(8) - 1)

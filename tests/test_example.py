@@ -2,7 +2,8 @@
 
 import unittest
 
-from tests.helper import ask, book_call, call, cause, classes, coded, common, ended, matters, settle
+from tests.helper import ask, book_call, call, cause, change_call, classes, coded, common, ended, matters, settle
+from tests.helper import text_told
 
 EXAMPLE = ended(["props", "os = lin|win", "lvl = a|b", "topic t", "h1: Intro", "p if os=lin: Linux",
                  "p if os=win: Win", "p if (os=win and lvl=b): More", "map", "1 t", "keys"])
@@ -39,12 +40,30 @@ class Example(unittest.TestCase):
     def test_size(self):
         self.assertEqual(ask(book_call(EXAMPLE), call("size"))[1], [1, 4, 4, 0])
 
-    def test_all_in_one_list(self):
-        told = ask(book_call(EXAMPLE), call("classes"), call("matters"), call("settle", 0), call("compare", 0, 3),
-                   call("size"))
-        self.assertEqual(told[:3], [[1, 4], [3, 2, 0, 1, 1, 2, 1, 3], [2, 0, 1]])
-        self.assertEqual(told[3], [1, 2] + coded("os") + [3] + coded("lin"))
-        self.assertEqual(told[5], [1, 4, 4, 0])
+    def test_whole_call_by_call(self):
+        told = ask(book_call(EXAMPLE), call("classes"), call("matters"), call("settle", 0), call("settle", 2),
+                   call("cause", 0, 2), call("cause", 0, 3), call("compare", 0, 3), call("read", 0), call("unread", 3),
+                   call("next"), change_call(0, 1, "p if os=lin: Linux 2"), call("touched"), call("unread", 0),
+                   call("mark"), call("touched"), call("size"))
+        self.assertEqual(told, [
+            [1, 4],
+            [3, 2, 0, 1, 1, 2, 1, 3],
+            [2, 0, 1],
+            [1] + text_told("os") + text_told("lin"),
+            [2] + text_told("os") + text_told("win") + text_told("lvl") + text_told("a"),
+            [1] + text_told("os") + text_told("win"),
+            [2] + text_told("os") + text_told("win") + text_told("lvl") + text_told("b"),
+            [3, 4, 2] + text_told("1 t") + text_told("h1: Intro"),
+            [2, 2],
+            [2] + text_told("t") + text_told("p: Win") + text_told("t") + text_told("p: More"),
+            [3, 2],
+            [2],
+            [2, 0, 1],
+            [1] + text_told("t") + text_told("p: Linux 2"),
+            [2],
+            [0],
+            [1, 4, 4, 2],
+        ])
 
 
 class NewObject(unittest.TestCase):
